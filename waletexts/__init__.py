@@ -1,0 +1,1 @@
+"""Wale, a language of knitting patterns: its texts are judged by waletexts.patterns."""
