@@ -1,8 +1,12 @@
-"""What the tests share: texts as lists of bytes, and a case that judges them."""
+"""What the tests share: texts as lists of bytes, and a case that judges and prints them."""
 
+import random
+import re
 import unittest
 
-from waletexts.patterns import judge
+from waletexts.patterns import judge, print_form
+
+LONGEST_TEXT = 16384
 
 SCARF = """pattern scarf;
 sizes s, m;
@@ -48,11 +52,104 @@ def names(amount):
     return [name(number) for number in range(amount)]
 
 
-class JudgeCase(unittest.TestCase):
+def cut(text):
+    """The tokens of a right text without comments."""
+    return re.findall(r"(?:k2tog|k3tog|p2tog|m1l|m1r)(?![a-z0-9_])|[a-z][a-z_]*|[0-9]+|[^ \n]", text)
+
+
+def squeezed(tokens):
+    """A text of these tokens with no blank that may be left out."""
+    text = ""
+    for before, token in zip([""] + tokens, tokens):
+        word_behind_word = before[:1].isalpha() and token[0].isalpha()
+        number_behind = token[0].isdigit() and (before.isdigit() or before[:1].isalpha() and not before.isalpha())
+        text += (" " if word_behind_word or number_behind else "") + token
+    return text
+
+
+class Maker:
+    """Makes right texts by chance, always the same ones for the same seed, as lists of tokens."""
+
+    HEADS = "sizes s , m ; yarns red , blue_ ; let n = 3 ; let o = 1 , n ; word w = k ; block b { }".split(" ")
+
+    def __init__(self, seed):
+        self.source = random.Random(seed)
+
+    def text(self):
+        return ["pattern", "a", ";"] + self.HEADS + self.heads() + self.stats(8, self.source.randrange(6))
+
+    def some(self, *choices):
+        return self.source.choice(choices)
+
+    def heads(self):
+        heads = ["let", "p_q", "="] + self.sum(8) + self.some([], [","] + self.sum(8)) + [";"]
+        heads += ["word", "u", "="] + self.items(8) + [";"]
+        return heads + ["block", "c", "{"] + self.stats(7, self.source.randrange(4)) + ["}"]
+
+    def stats(self, depth, amount):
+        return [token for number in range(amount) for token in self.stat(depth)]
+
+    def stat(self, depth):
+        kinds = ["on", "row", "row", "row", "work", "off"] + ["repeat", "until"] * 2 * (depth > 0)
+        word = self.some(*kinds)
+        if word in ("repeat", "until"):
+            return [word] + self.sum(depth) + ["{"] + self.stats(depth - 1, self.source.randrange(3)) + ["}"]
+        behind = {
+            "on": lambda: self.sum(depth) + self.some([], ["round"]),
+            "row": lambda: self.some([], ["rs"], ["ws"]) + self.items(depth),
+            "work": lambda: ["b"] + self.some([], self.sum(depth)),
+            "off": lambda: [],
+        }
+        return [word] + behind[word]() + [";"]
+
+    def items(self, depth):
+        items = self.item(depth)
+        for number in range(self.source.randrange(4)):
+            items += [","] + self.item(depth)
+        return items
+
+    def item(self, depth):
+        if self.source.randrange(4) == 0:
+            return self.some("take h", "yarn red", "mark a", "pass a", "clear c", "turn", "fasten").split(" ")
+        unit = self.some("k", "p2tog", "m1r", "cl 1 / 16", "cr 2 / 3", "hold h", "w", "(").split(" ")
+        if unit == ["("]:
+            unit = ["("] + self.items(depth - 1) + [")"] if depth > 0 else ["yo"]
+        goal = self.some(["end"], ["mark", "k_m"], ["last"] + self.sum(depth))
+        return unit + self.some([], self.sum(depth), ["to"] + goal)
+
+    def sum(self, depth):
+        tokens = self.factor(depth)
+        for number in range(self.source.randrange(4)):
+            tokens += [self.some("+", "-", "*", "/")] + self.factor(depth)
+        return tokens
+
+    def factor(self, depth):
+        if depth > 0 and self.source.randrange(3) == 0:
+            return ["("] + self.sum(depth - 1) + [")"]
+        return [self.some("0", "7", "12", "1048576", "n", "o")]
+
+
+class PatternCase(unittest.TestCase):
     def right(self, text):
         self.assertEqual(judge(codes(text)), [0], text)
+        self.form(text)
 
     def fault(self, kind, marked):
-        """The text, in which an @ stands before the fault's place, is refused with that kind."""
+        """The text, in which an @ stands before the fault's place, is refused with that kind, whichever call asks."""
         before, behind = marked.split("@")
         self.assertEqual(judge(codes(before + behind)), [-kind, len(before)], marked)
+        self.assertEqual(print_form(codes(before + behind)), [-kind, len(before)], marked)
+
+    def form(self, text):
+        """The form of a right text; what is true of every form is asked here too."""
+        answer = print_form(codes(text))
+        self.assertEqual(answer[0], len(answer) - 1, text)
+        self.assertLessEqual(answer[0], 16 * len(text) + 64, text)
+        form = answer[1:]
+        if len(form) <= LONGEST_TEXT:
+            self.assertEqual(judge(form), [0], text)
+            self.assertEqual(print_form(form), answer, text)
+        return "".join(map(chr, form))
+
+    def prints(self, text, form):
+        self.assertEqual(self.form(text), form, text)

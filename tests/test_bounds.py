@@ -5,7 +5,7 @@ import unittest
 
 from waletexts.patterns import judge
 
-from tests.helper import SCARF, JudgeCase, codes, names
+from tests.helper import SCARF, PatternCase, codes, names
 
 HEAD = "pattern a; "
 
@@ -23,7 +23,7 @@ def nested(block, braces, row_brackets, sum_brackets, beyond=""):
     return HEAD + opened + (beyond or "1") + closed
 
 
-class HowMany(JudgeCase):
+class HowMany(PatternCase):
     def test_sizes_and_yarns(self):
         for word in ("sizes", "yarns"):
             self.right(HEAD + word + " " + ", ".join(names(16)) + ";")
@@ -66,7 +66,7 @@ class HowMany(JudgeCase):
         self.fault(6, HEAD + "word w = " + stood[4:] + "block b { row hold @last_one; }")
 
 
-class HowDeep(JudgeCase):
+class HowDeep(PatternCase):
     def test_braces(self):
         for brace in (REPEAT, UNTIL):
             self.right(HEAD + brace[0] * 8 + brace[1] * 8)
@@ -116,7 +116,7 @@ class HowDeep(JudgeCase):
         self.fault(3, HEAD + REPEAT[0] * 8 + "@{ " + "}" * 9)
 
 
-class Crossings(JudgeCase):
+class Crossings(PatternCase):
     def test_their_numbers(self):
         for word in ("cl", "cr"):
             for number in (1, 2, 15, 16):
@@ -132,7 +132,7 @@ class Crossings(JudgeCase):
         self.right(HEAD + "row cl 1/1 0, cr 1/1 17, k 0, k 17;")
 
 
-class HowLong(JudgeCase):
+class HowLong(PatternCase):
     def filled(self, text, length):
         return codes(text) + [32] * (length - len(text))
 

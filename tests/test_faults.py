@@ -4,12 +4,12 @@ import unittest
 
 from waletexts.patterns import judge
 
-from tests.helper import EVERYTHING, JudgeCase, codes, names
+from tests.helper import EVERYTHING, PatternCase, codes, names
 
 HEAD = "pattern a; "
 
 
-class Places(JudgeCase):
+class Places(PatternCase):
     def test_bytes(self):
         self.fault(1, "@Apattern a;")
         self.fault(1, "pattern a; on @! 3;")
@@ -54,7 +54,7 @@ class Places(JudgeCase):
             self.fault(3, "pattern a; repeat 2 { off;" + blanks + "@")
 
 
-class Wanted(JudgeCase):
+class Wanted(PatternCase):
     """What stands is not what the grammar wants there."""
 
     def test_each_place_of_the_grammar(self):
@@ -125,7 +125,7 @@ class Wanted(JudgeCase):
             self.assertEqual(answer, [0] if may_end else [-3, len(text)], text)
 
 
-class MetFirst(JudgeCase):
+class MetFirst(PatternCase):
     def test_the_left_one(self):
         self.fault(4, HEAD + "row @w, 01, !")
         self.fault(2, HEAD + "row k @01, w, !")
@@ -171,7 +171,7 @@ class MetFirst(JudgeCase):
         self.fault(5, HEAD + "let n = 1; @sizes s, t;")
 
 
-class NumbersOfSums(JudgeCase):
+class NumbersOfSums(PatternCase):
     def test_one_or_as_many_as_sizes(self):
         for sizes in range(17):
             head = HEAD + ("sizes " + ",".join(names(sizes)) + "; " if sizes else "")

@@ -2,7 +2,7 @@
 
 import unittest
 
-from tests.helper import JudgeCase
+from tests.helper import PatternCase
 
 HEAD = "pattern a; "
 KINDS = {
@@ -19,7 +19,7 @@ USES = {
 }
 
 
-class Told(JudgeCase):
+class Told(PatternCase):
     def test_each_use_of_each_kind(self):
         for use, texts in USES.items():
             for text in texts:
@@ -64,7 +64,7 @@ class Told(JudgeCase):
         self.right(HEAD + "yarns y, z; row yarn z;")
 
 
-class ToldAlready(JudgeCase):
+class ToldAlready(PatternCase):
     def test_all_names_are_different(self):
         again = {
             "size": "sizes @x;", "yarn": "yarns @x;", "number": "let @x = 1;", "word": "word @x = k;",
@@ -99,7 +99,7 @@ class ToldAlready(JudgeCase):
         self.right(HEAD + "let n = 1; yarns x;")
 
 
-class MarkersAndHolders(JudgeCase):
+class MarkersAndHolders(PatternCase):
     def test_told_by_standing_there(self):
         self.right(HEAD + "row pass m; row k to mark n; row clear o, mark q;")
         self.right(HEAD + "row take h, hold i;")

@@ -2,10 +2,10 @@
 
 import unittest
 
-from tests.helper import EVERYTHING, PLAIN, SCARF, JudgeCase
+from tests.helper import EVERYTHING, PLAIN, SCARF, PatternCase
 
 
-class RightTexts(JudgeCase):
+class RightTexts(PatternCase):
     def test_the_printed_pattern(self):
         self.right(SCARF)
 
@@ -70,7 +70,7 @@ class RightTexts(JudgeCase):
         self.right("pattern a;" + "#\n" * 8000)
 
 
-class Blanks(JudgeCase):
+class Blanks(PatternCase):
     def test_blanks_and_comments_between_all_tokens(self):
         tokens = EVERYTHING.split(" ")
         for blank in (" ", "\n", "  \n ", "#\n", "# pattern ! ~ A { #\n", " # a\n\n# b\n "):

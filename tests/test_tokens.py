@@ -4,13 +4,13 @@ import unittest
 
 from waletexts.patterns import judge
 
-from tests.helper import PLAIN, RESERVED, JudgeCase, codes
+from tests.helper import PLAIN, RESERVED, PatternCase, codes
 
 DIGIT_WORDS = ("k2tog", "k3tog", "p2tog", "m1l", "m1r")
 HEAD = "pattern a; "
 
 
-class DigitWords(JudgeCase):
+class DigitWords(PatternCase):
     def test_by_themselves(self):
         for word in DIGIT_WORDS:
             for behind in (";", " ;", ",k;", " 3;", "#\n;", "\n2;", "(1);", " to end;"):
@@ -49,7 +49,7 @@ class DigitWords(JudgeCase):
             self.fault(3, HEAD + "on @" + word + ";")
 
 
-class Words(JudgeCase):
+class Words(PatternCase):
     def test_k3_and_tw3(self):
         self.right(HEAD + "row k3;")
         self.right(HEAD + "word tw = k; row tw3, tw 3;")
@@ -82,7 +82,7 @@ class Words(JudgeCase):
                 self.right("pattern " + word + "x;")
 
 
-class Numbers(JudgeCase):
+class Numbers(PatternCase):
     def test_right_ones(self):
         for number in ("0", "1", "9", "10", "100", "999999", "1000000", "1048575", "1048576"):
             self.right(HEAD + "on " + number + ";")
@@ -112,7 +112,7 @@ class Numbers(JudgeCase):
         self.right(HEAD + "row k to last0;")
 
 
-class Signs(JudgeCase):
+class Signs(PatternCase):
     def test_each_is_a_token(self):
         for sign in ",;(){}[]=+-*/":
             self.fault(3, HEAD + "@" + sign)
@@ -123,7 +123,7 @@ class Signs(JudgeCase):
             self.fault(3, HEAD + marked)
 
 
-class BytesThatCannotBe(JudgeCase):
+class BytesThatCannotBe(PatternCase):
     BEGINNING = codes("abcdefghijklmnopqrstuvwxyz0123456789,;(){}[]=+-*/")
     BLANKS = [10, 32, 35]
 

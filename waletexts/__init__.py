@@ -1,1 +1,1 @@
-"""Wale, a language of knitting patterns: its texts are judged by waletexts.patterns."""
+"""Wale, a language of knitting patterns: its texts are judged and printed by waletexts.patterns."""

@@ -60,7 +60,11 @@ class Reader:
         return token
 
     def want_told_name(self, kind):
-        self.names.check_told(self.want_kind(NAME), kind)
+        token = self.want_kind(NAME)
+        self.names.check_told(token, kind)
+        return token.text
 
     def want_standing_name(self, kind):
-        self.names.stand(self.want_kind(NAME), kind)
+        token = self.want_kind(NAME)
+        self.names.stand(token, kind)
+        return token.text
