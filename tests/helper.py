@@ -1,12 +1,15 @@
-"""What the tests share: texts as lists of bytes, and a case that judges and prints them."""
+"""What the tests share: texts as lists of bytes, and a case that judges, prints and compares them."""
 
+import ast
+import itertools
 import random
 import re
 import unittest
 
-from waletexts.patterns import judge, print_form
+from waletexts.patterns import judge, print_form, same
 
 LONGEST_TEXT = 16384
+SIGNS = "+-*/"
 
 SCARF = """pattern scarf;
 sizes s, m;
@@ -43,6 +46,22 @@ def codes(text):
     return list(text.encode("latin-1"))
 
 
+def same_as_itself(t):
+    return same(t, t)
+
+
+def same_first(t):
+    return same(t, codes(SCARF))
+
+
+def same_second(t):
+    return same(codes(SCARF), t)
+
+
+# Every call, asked of one text; what has a fault is refused alike by all of them.
+CALLS = (judge, print_form, same_as_itself, same_first, same_second)
+
+
 def name(number):
     """A name of three letters, another one for each number below 17,576; none is a word of the language."""
     return "x" + "".join(chr(97 + number // step % 26) for step in (676, 26, 1))
@@ -65,6 +84,45 @@ def squeezed(tokens):
         number_behind = token[0].isdigit() and (before.isdigit() or before[:1].isalpha() and not before.isalpha())
         text += (" " if word_behind_word or number_behind else "") + token
     return text
+
+
+def tree(text):
+    """Python's own tree of the same sum: its signs bind as they do here, from the left, and brackets leave no trace."""
+    return ast.dump(ast.parse(text, mode="eval"))
+
+
+def pairs_of_brackets(signs):
+    """The places of each bracket that is opened and closed again in a text or a list of tokens."""
+    opened, pairs = [], []
+    for place, sign in enumerate(signs):
+        if sign == "(":
+            opened.append(place)
+        elif sign == ")" and opened:
+            pairs.append((opened.pop(), place))
+    return pairs
+
+
+def all_sums(numbers):
+    """Each way to set brackets and signs between these numbers, with brackets about everything but single numbers."""
+    if len(numbers) == 1:
+        yield numbers[0]
+        return
+    for place in range(1, len(numbers)):
+        for left, sign, right in itertools.product(all_sums(numbers[:place]), SIGNS, all_sums(numbers[place:])):
+            yield "(" + left + sign + right + ")"
+
+
+def made_sum(source, deep):
+    text = made_factor(source, deep)
+    for number in range(source.randrange(4)):
+        text += source.choice(SIGNS) + made_factor(source, deep)
+    return text
+
+
+def made_factor(source, deep):
+    if deep > 0 and source.randrange(5) < 2:
+        return "(" + made_sum(source, deep - 1) + ")"
+    return source.choice(("0", "1", "20", "n", "o"))
 
 
 class Maker:
@@ -129,6 +187,16 @@ class Maker:
         return [self.some("0", "7", "12", "1048576", "n", "o")]
 
 
+class Untouchable(list):
+    """A list that can be read alone."""
+
+    def refuse(self, *arguments, **named):
+        raise AssertionError("what was handed in is changed")
+
+    append = clear = extend = insert = pop = remove = reverse = sort = refuse
+    __setitem__ = __delitem__ = __iadd__ = __imul__ = refuse
+
+
 class PatternCase(unittest.TestCase):
     def right(self, text):
         self.assertEqual(judge(codes(text)), [0], text)
@@ -137,8 +205,8 @@ class PatternCase(unittest.TestCase):
     def fault(self, kind, marked):
         """The text, in which an @ stands before the fault's place, is refused with that kind, whichever call asks."""
         before, behind = marked.split("@")
-        self.assertEqual(judge(codes(before + behind)), [-kind, len(before)], marked)
-        self.assertEqual(print_form(codes(before + behind)), [-kind, len(before)], marked)
+        for call in CALLS:
+            self.assertEqual(call(codes(before + behind)), [-kind, len(before)], marked)
 
     def form(self, text):
         """The form of a right text; what is true of every form is asked here too."""
@@ -149,7 +217,21 @@ class PatternCase(unittest.TestCase):
         if len(form) <= LONGEST_TEXT:
             self.assertEqual(judge(form), [0], text)
             self.assertEqual(print_form(form), answer, text)
+            self.assertEqual(same(codes(text), form), [1], text)
         return "".join(map(chr, form))
 
     def prints(self, text, form):
         self.assertEqual(self.form(text), form, text)
+
+    def one_tree(self, text, other):
+        self.compares(text, other, True)
+
+    def two_trees(self, text, other):
+        self.compares(text, other, False)
+
+    def compares(self, text, other, alike):
+        """Both texts are right; they are one tree, and have one form, or not, whichever stands first."""
+        texts = (text[-200:], other[-200:])
+        self.assertEqual(same(codes(text), codes(other)), [int(alike)], texts)
+        self.assertEqual(same(codes(other), codes(text)), [int(alike)], texts)
+        self.assertEqual(print_form(codes(text)) == print_form(codes(other)), alike, texts)

@@ -4,11 +4,10 @@ import itertools
 import random
 import unittest
 
-from waletexts.patterns import judge, print_form
+from waletexts.patterns import judge, print_form, same
 
-from tests.helper import EVERYTHING, SCARF, Maker, PatternCase, codes, squeezed
+from tests.helper import CALLS, EVERYTHING, SCARF, Maker, PatternCase, Untouchable, codes, squeezed
 
-CALLS = (judge, print_form)
 FAULTY = (
     "", "a", "pattern", "pattern a; on 01; off;", "pattern a; on !;", "pattern a; row w;", "pattern a; sizes s, s;",
     "pattern a; row cl 0/1;", "pattern a; let n = 1, 2;", "pattern a; let n = 1, 2", "pattern a; row k2togx;",
@@ -29,16 +28,6 @@ def changed_texts(amount):
         yield (" " if number % 3 else "").join(parts)
 
 
-class Untouchable(list):
-    """A list that can be read alone."""
-
-    def refuse(self, *arguments, **named):
-        raise AssertionError("what was handed in is changed")
-
-    append = clear = extend = insert = pop = remove = reverse = sort = refuse
-    __setitem__ = __delitem__ = __iadd__ = __imul__ = refuse
-
-
 class Answers(PatternCase):
     def test_the_empty_list(self):
         for call in CALLS:
@@ -48,19 +37,23 @@ class Answers(PatternCase):
         self.assertEqual(judge(codes(SCARF)), [0])
         self.assertEqual(print_form(codes(SCARF)), [len(SCARF)] + codes(SCARF))
         self.assertEqual(print_form(codes("pattern a;")), [11, 112, 97, 116, 116, 101, 114, 110, 32, 97, 59, 10])
+        self.assertEqual(same(codes(SCARF), codes(SCARF)), [1])
+        self.assertEqual(same(codes(SCARF), codes(EVERYTHING)), [0])
 
     def test_refusals(self):
         met = {}
         for text in (*FAULTY, "x" * 16385, "\x00" * 20000, " " * 20000):
             answer = judge(codes(text))
             met[answer[0]] = True
-            self.assertEqual(print_form(codes(text)), answer)
+            for call in CALLS:
+                self.assertEqual(call(codes(text)), answer)
             self.assertEqual(len(answer), 2)
         self.assertEqual(sorted(met), [-7, -6, -5, -4, -3, -2, -1])
 
     def test_a_text_too_long(self):
         too_long = codes(SCARF) + [32] * (16385 - len(SCARF))
-        self.assertEqual(print_form(too_long), [-6, 16384])
+        for call in CALLS:
+            self.assertEqual(call(too_long), [-6, 16384])
         self.assertEqual(print_form(too_long[:-1]), [len(SCARF)] + codes(SCARF))
 
     def test_kinds_of_what_is_given_back(self):
@@ -121,20 +114,24 @@ class Promises(PatternCase):
             kinds[answer[0]] = True
             if answer == [0]:
                 self.assertGreater(print_form(text)[0], 0)
+                self.assertEqual(same(text, text), [1])
             else:
                 self.assertEqual(len(answer), 2)
                 self.assertIn(-answer[0], range(1, 8))
                 self.assertIn(answer[1], range(len(text) + 1))
-                self.assertEqual(print_form(text), answer)
+                for call in CALLS:
+                    self.assertEqual(call(text), answer)
         self.assertEqual(sorted(kinds), [-7, -6, -5, -4, -3, -2, -1, 0])
 
-    def test_2_the_form_is_right_and_its_own_form(self):
+    def test_2_the_form_is_right_its_own_form_and_the_same_tree(self):
         maker = Maker(2)
         for text in [SCARF, EVERYTHING] + [squeezed(maker.text()) for number in range(300)]:
             answer = print_form(codes(text))
             self.assertEqual(answer[0], len(answer[1:]))
             self.assertEqual(judge(answer[1:]), [0])
             self.assertEqual(print_form(answer[1:]), answer)
+            self.assertEqual(same(answer[1:], codes(text)), [1])
+            self.assertEqual(same(codes(text), answer[1:]), [1])
 
     def test_3_blanks_and_comments_alone(self):
         source = random.Random(3)
@@ -145,24 +142,33 @@ class Promises(PatternCase):
             tokens = EVERYTHING.split(" ") if number % 2 else maker.text()
             for change in range(source.randrange(3)):
                 tokens[source.randrange(len(tokens))] = source.choice(tokens + ["!", "01", "zz"])
-            outcomes = [self.outcome(tokens, source, blanks) for how in range(3)]
+            ways = [self.spread(tokens, source, blanks) for how in range(3)]
+            outcomes = [self.outcome(*way) for way in ways]
             met[outcomes[0][0] > 0] = True
             self.assertEqual(outcomes[0], outcomes[1])
             self.assertEqual(outcomes[0], outcomes[2])
+            if outcomes[0][0] > 0:
+                self.one_tree(ways[0][0], ways[1][0])
+                self.one_tree(ways[1][0], ways[2][0])
         self.assertEqual(sorted(met), [False, True])
 
-    def outcome(self, tokens, source, blanks):
-        """What print_form answers of these tokens with blanks between them; of a fault, which token it is at."""
+    def spread(self, tokens, source, blanks):
+        """A text of these tokens with blanks between them, and which of them begins at which place."""
         text, begins = "", {}
         for index, token in enumerate(tokens):
             text += source.choice(blanks)
             begins[len(text)] = index
             text += token
         begins[len(text)] = "the end"
+        return text, begins
+
+    def outcome(self, text, begins):
+        """What print_form answers; of a fault, which token it is at."""
         answer = print_form(codes(text))
         if answer[0] > 0:
             return answer
-        self.assertEqual(judge(codes(text)), answer)
+        for call in CALLS:
+            self.assertEqual(call(codes(text)), answer)
         return [answer[0], begins[answer[1]]]
 
     def test_5_what_follows_a_fault_changes_nothing(self):

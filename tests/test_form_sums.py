@@ -1,52 +1,12 @@
 """The form of sums: no blanks, and brackets only where they must be."""
 
-import ast
 import itertools
 import random
 import unittest
 
-from tests.helper import PatternCase
+from tests.helper import SIGNS, PatternCase, all_sums, made_sum, pairs_of_brackets, tree
 
 HEAD = "pattern a;\nlet n = 1;\nlet o = 2;\nblock b {\n}\n"
-SIGNS = "+-*/"
-
-
-def tree(text):
-    """Python's own tree of the same sum: its signs bind as they do here, from the left, and brackets leave no trace."""
-    return ast.dump(ast.parse(text, mode="eval"))
-
-
-def pairs_of_brackets(text):
-    opened, pairs = [], []
-    for place, sign in enumerate(text):
-        if sign == "(":
-            opened.append(place)
-        elif sign == ")":
-            pairs.append((opened.pop(), place))
-    return pairs
-
-
-def all_sums(numbers):
-    """Each way to set brackets and signs between these numbers, with brackets about everything but single numbers."""
-    if len(numbers) == 1:
-        yield numbers[0]
-        return
-    for cut in range(1, len(numbers)):
-        for left, sign, right in itertools.product(all_sums(numbers[:cut]), SIGNS, all_sums(numbers[cut:])):
-            yield "(" + left + sign + right + ")"
-
-
-def made_sum(source, deep):
-    text = made_factor(source, deep)
-    for number in range(source.randrange(4)):
-        text += source.choice(SIGNS) + made_factor(source, deep)
-    return text
-
-
-def made_factor(source, deep):
-    if deep > 0 and source.randrange(5) < 2:
-        return "(" + made_sum(source, deep - 1) + ")"
-    return source.choice(("0", "1", "20", "n", "o"))
 
 
 class Sums(PatternCase):

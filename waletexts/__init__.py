@@ -1,1 +1,1 @@
-"""Wale, a language of knitting patterns: its texts are judged and printed by waletexts.patterns."""
+"""Wale, a language of knitting patterns: waletexts.patterns judges, prints and compares its texts."""

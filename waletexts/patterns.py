@@ -1,5 +1,6 @@
 """The calls: what is asked of pattern texts."""
 
+from waletexts.alike import same_stats
 from waletexts.faults import BoundFault, Fault
 from waletexts.form import form_of
 from waletexts.grammar import read_pattern
@@ -24,6 +25,16 @@ def print_form(t):
     except Fault as fault:
         return refusal(fault)
     return [len(form)] + [ord(sign) for sign in form]
+
+
+# [1] if t and u are one tree, [0] if they are two, or the refusal of t if it has a fault, else that of u.
+def same(t, u):
+    try:
+        one = read_text(t)
+        other = read_text(u)
+    except Fault as fault:
+        return refusal(fault)
+    return [1 if same_stats(one, other) else 0]
 
 
 def read_text(t):
